@@ -124,7 +124,7 @@ func copySchema(s []impl.Type) []impl.Type {
 
 func same(a any, b any) bool { return reflect.DeepEqual(a, b) }
 
-// leaves bounds a random tree by its leaves, so that it stays within MaxExpr nodes.
+// randomTree is bounded by its leaves: eight of them stay within MaxExpr nodes.
 func randomTree(r *rand.Rand, leaves int, leaf func() []impl.Expr) []impl.Expr {
 	if leaves <= 1 {
 		return leaf()
