@@ -152,8 +152,14 @@ func richLeaf(r *rand.Rand, most int) []impl.Expr {
 }
 
 func randomTuples(r *rand.Rand, s []impl.Type, most int) []impl.Tuple {
+	fit := fittingTuples(s, "x", "y")
+	shuffleTuples(r, fit)
+	return inTextOrder(fit[:min(len(fit), r.Intn(most+1))])
+}
+
+// fittingTuples answers all tuples of these ids that fit.
+func fittingTuples(s []impl.Type, ids ...string) []impl.Tuple {
 	var fit []impl.Tuple
-	ids := []string{"x", "y"}
 	for _, ty := range s {
 		for _, re := range ty.Rels {
 			for _, n := range re.Expr {
@@ -167,8 +173,11 @@ func randomTuples(r *rand.Rand, s []impl.Type, most int) []impl.Tuple {
 			}
 		}
 	}
-	r.Shuffle(len(fit), func(i, j int) { fit[i], fit[j] = fit[j], fit[i] })
-	return inTextOrder(fit[:min(len(fit), r.Intn(most+1))])
+	return fit
+}
+
+func shuffleTuples(r *rand.Rand, l []impl.Tuple) {
+	r.Shuffle(len(l), func(i, j int) { l[i], l[j] = l[j], l[i] })
 }
 
 func inTextOrder(l []impl.Tuple) []impl.Tuple {
