@@ -5,6 +5,7 @@ import (
 	"math/rand"
 	"reflect"
 	"slices"
+	"strings"
 	"testing"
 
 	"loop.example/g00297/impl"
@@ -28,6 +29,14 @@ func tuplesOf(t *testing.T, texts ...string) []impl.Tuple {
 		l = append(l, tupleOf(t, s))
 	}
 	return l
+}
+
+func tuplesText(l []impl.Tuple) string {
+	var texts []string
+	for _, u := range l {
+		texts = append(texts, impl.TupleText(u))
+	}
+	return strings.Join(texts, " ")
 }
 
 // numbered answers n right tuples in order.
@@ -123,6 +132,57 @@ func copySchema(s []impl.Type) []impl.Type {
 }
 
 func same(a any, b any) bool { return reflect.DeepEqual(a, b) }
+
+// wrongSchemas are not right, each for another cause; all but the first have a type doc with a relation a that allows user, or nearly so.
+func wrongSchemas() map[string][]impl.Type {
+	a := relation("a", union(this(user()), rel("a")))
+	return map[string][]impl.Type{
+		"a type that is no name": {typ("Doc", a), typ("user")}, "no such type": {typ("doc", a)}, "types fall": {typ("user"), typ("doc", a)}, "types alike": {typ("doc", a), typ("doc"), typ("user")},
+		"relations alike": onDocs(a, a), "relations fall": onDocs(relation("b", this(user())), a), "a relation this": onDocs(a, relation("this", this(user()))),
+		"no expression": onDocs(a, relation("b", nil)), "no such relation": onDocs(a, relation("b", rel("c"))), "no goal": onDocs(a, relation("b", over("a", "a"))),
+		"a kid far out":          onDocs(a, relation("b", []impl.Expr{{Kind: impl.RwRel, Name: "a"}, {Kind: impl.RwRel, Name: "a"}, {Kind: impl.RwUnion, Kids: []int64{0, 1 << 40}}})),
+		"a kid below":            onDocs(a, relation("b", []impl.Expr{{Kind: impl.RwRel, Name: "a"}, {Kind: impl.RwRel, Name: "a"}, {Kind: impl.RwUnion, Kids: []int64{-1, 1}}})),
+		"it takes itself away":   onDocs(relation("a", but(this(user()), rel("a")))),
+		"a ring that takes away": onDocs(a, relation("b", rel("c")), relation("c", but(rel("a"), rel("b")))),
+	}
+}
+
+// wantApart asks that no two lists of these values, and of what stands in them, share memory, the room behind them counted.
+func wantApart(t *testing.T, what string, values ...any) {
+	t.Helper()
+	var rooms [][2]uintptr
+	var walk func(v reflect.Value)
+	walk = func(v reflect.Value) {
+		switch v.Kind() {
+		case reflect.Slice:
+			if v.Cap() > 0 {
+				rooms = append(rooms, [2]uintptr{v.Pointer(), v.Pointer() + uintptr(v.Cap())*v.Type().Elem().Size()})
+			}
+			for i := range v.Len() {
+				walk(v.Index(i))
+			}
+		case reflect.Struct:
+			for i := range v.NumField() {
+				walk(v.Field(i))
+			}
+		}
+	}
+	for _, value := range values {
+		walk(reflect.ValueOf(value))
+	}
+	slices.SortFunc(rooms, func(a, b [2]uintptr) int { return slices.Compare(a[:], b[:]) })
+	for i := 1; i < len(rooms); i++ {
+		if rooms[i][0] < rooms[i-1][1] {
+			t.Fatalf("%s: two lists share memory", what)
+		}
+	}
+}
+
+// roomy answers the list with something in the room behind it, and a question whether that is still there.
+func roomy[E any](list []E, behind E) ([]E, func() bool) {
+	all := append(slices.Clone(list), behind)
+	return all[:len(list)], func() bool { return same(all[len(list)], behind) }
+}
 
 // randomTree is bounded by its leaves: eight of them stay within MaxExpr nodes.
 func randomTree(r *rand.Rand, leaves int, leaf func() []impl.Expr) []impl.Expr {
