@@ -91,6 +91,11 @@ func (m scriptMaker) bent(line string) string {
 	return strings.Replace(line, line[at:min(at+1, len(line))], m.one(" ", "1", "z", "\x00"), 1)
 }
 
+// blanksAround answers the line with blanks at one end or at both.
+func (m scriptMaker) blanksAround(line string) string {
+	return m.one("", " ", "  ", "    ") + line + m.one("", " ", "   ")
+}
+
 // lines answers so many, with a schema ahead most times.
 func (m scriptMaker) lines(n int) []string {
 	var list []string
@@ -99,8 +104,11 @@ func (m scriptMaker) lines(n int) []string {
 		if i == 0 && m.r.Intn(10) > 0 {
 			line = "new " + m.schema()
 		}
-		if m.r.Intn(12) == 0 {
+		switch m.r.Intn(12) {
+		case 0:
 			line = m.bent(line)
+		case 1:
+			line = m.blanksAround(line)
 		}
 		list = append(list, line)
 	}

@@ -69,7 +69,7 @@ func TestHowManyLines(t *testing.T) {
 
 func TestHowManyBytesOfAScript(t *testing.T) {
 	for _, c := range []struct{ what, begin, fill, end, said string }{
-		{"one line", "", "x", "\n", "what\n"}, {"blanks", "", " ", "\n", ""}, {"blanks behind a word", "files", " ", "\n", "files\n"},
+		{"one line", "", "x", "\n", "what\n"}, {"blanks", "", " ", "\n", ""}, {"blanks behind a word", "files", " ", "\n", "files\n"}, {"blanks ahead of a word", "", " ", "files\n", "files\n"}, {"blanks ahead of a change", "", " ", "add doc:a#viewer@user:x\n", "what\n"},
 		{"blanks between", "save", " ", "1\n", "no 7\n"}, {"the last one of many", strings.Repeat("files\n", 39), "x", "\n", strings.Repeat("files\n", 39) + "what\n"},
 		{"bytes that are no letters", "", "\xff", "\n", "what\n"}, {"a schema that is none", "new ", "x", "\n", "what\n"},
 	} {
@@ -191,10 +191,35 @@ func TestWordsOfLines(t *testing.T) {
 		"adds doc:a#viewer@user:y", "ad doc:a#viewer@user:y", "remove doc:a#viewer@user:x", "what", "ok", "too long", "this", "tuple", "file", "filesfiles", "saves", "sav", "save1", "open1", "crash00", "not", "yes", "0", "#", "save;open", "save,", "\xff\xfe", "save\xff", "f\u00efles", "files\x00", "files\r", "tuples\r", "save\t", "save\t1", "crash\t0\t0", "check\tdoc:a#viewer@user:x")
 }
 
-// The first word goes up to the first blank, so there is none where a line begins with one.
-func TestLinesThatBeginWithABlank(t *testing.T) {
-	wantWhat(t, " new type doc", " move type user", " add doc:a#viewer@user:y", " drop doc:a#viewer@user:x", " sync add doc:a#viewer@user:y", "  add doc:a#viewer@user:y", " fly", " x ",
-		" save", "  save 1 ", " open", " crash 0 0", " check doc:a#viewer@user:x", " users doc:a#viewer@user:x", " objects doc:a#viewer@user:x", " proof doc:a#viewer@user:x", " tuples", " files", "   files   ")
+// The rows ahead of save are told by what stands behind the one blank, so no blank stands ahead of their words.
+func TestBlanksAheadOfExactLines(t *testing.T) {
+	for _, line := range []string{"new type doc", "move type user", "add doc:a#viewer@user:y", "drop doc:a#viewer@user:x", "sync add doc:a#viewer@user:y", "sync drop doc:a#viewer@user:x", "new", "move", "add", "drop", "sync", "fly", "x "} {
+		wantWhat(t, " "+line, "  "+line, strings.Repeat(" ", 90)+line, " "+line+" ")
+	}
+}
+
+// From save on words are parted by blanks, at both ends too.
+func TestBlanksAtBothEnds(t *testing.T) {
+	const tuple = "doc:a#viewer@user:x"
+	begin := []string{newSmall, "ok", "add " + tuple, "ok"}
+	for _, ahead := range []string{"", " ", "  ", strings.Repeat(" ", 70)} {
+		for _, behind := range []string{"", " ", "   "} {
+			around := func(line string) string { return ahead + line + behind }
+			wantLines(t, "an empty disk", around("files"), "files", around("tuples"), "no 7", around("save"), "no 7", around("save 1"), "no 7", around("open"), "no 7", around("open  1"), "no 7", around("crash 1 2"), "no 7",
+				around("check "+tuple), "no 7", around("users "+tuple), "no 7", around("objects  "+tuple), "no 7", around("proof "+tuple), "no 7", around("files"), "files")
+			wantLines(t, "asked", append(begin, around("tuples"), "tuples 1 "+tuple, around("files"), "files base log", around("check "+tuple), "yes", around("check doc:b#viewer@user:x"), "not",
+				around("users "+tuple), "users user:x", around("objects   "+tuple), "objects doc:a", around("proof "+tuple), "proof "+tuple, around("proof doc:b#viewer@user:x"), "not")...)
+			wantLines(t, "saved", append(begin, around("save 0"), "no 5", around("save  2"), "no 5", "files", "files base base.new log", around("open 0"), "ok", around("open"), "ok", around("save"), "ok", "files", "files base", around("crash 0 0"), "ok", "tuples", "tuples 1 "+tuple)...)
+			wantLines(t, "crashed", append(begin, around("crash  0   0"), "ok", "tuples", "tuples 0")...)
+		}
+	}
+}
+
+// With blanks ahead, too, what is none of the table is none.
+func TestBlanksAheadOfWrongLines(t *testing.T) {
+	const tuple = "doc:a#viewer@user:x"
+	wantWhat(t, " save x", " save 1 1", " save 01", " save1", " open -1", "  open 1 2", " crash", " crash 0", " crash 0 0 0", " crash 00 0", " check", " check x", " check "+tuple+"#viewer", " check "+tuple+" "+tuple, " users", " users doc:a#viewer", " objects", " objects x", " proof", "  proof "+tuple+" x",
+		" tuples 0", " files x", " files files", " Files", " file s", " s ave", " \tfiles", "\t files", "\tfiles", " \rfiles", " files\r", "\u00a0files", " \x00files", " what", " ok", " save add "+tuple, " files add "+tuple, " add", " save;", " "+tuple)
 }
 
 func TestSaveAndOpenLines(t *testing.T) {

@@ -16,10 +16,10 @@ const decimalForm = `(0|[1-9][0-9]{0,9})`
 var (
 	schemaLine = regexp.MustCompile(`(?s)^(new|move) (.*)$`)
 	changeLine = regexp.MustCompile(`(?s)^(sync )?(add|drop) (.*)$`)
-	powerLine  = regexp.MustCompile(`^(save|open)(?: +` + decimalForm + `)? *$`)
-	crashLine  = regexp.MustCompile(`^crash +` + decimalForm + ` +` + decimalForm + ` *$`)
-	askLine    = regexp.MustCompile(`^(check|users|objects|proof) +([^ ]+) *$`)
-	bareLine   = regexp.MustCompile(`^(tuples|files) *$`)
+	powerLine  = regexp.MustCompile(`^ *(save|open)(?: +` + decimalForm + `)? *$`)
+	crashLine  = regexp.MustCompile(`^ *crash +` + decimalForm + ` +` + decimalForm + ` *$`)
+	askLine    = regexp.MustCompile(`^ *(check|users|objects|proof) +([^ ]+) *$`)
+	bareLine   = regexp.MustCompile(`^ *(tuples|files) *$`)
 )
 
 func scriptByWords(text string) string {
